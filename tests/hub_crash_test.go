@@ -88,14 +88,7 @@ func hubRow() []impl.Event {
 func TestP2HubEachCrash(t *testing.T) {
 	numbers, row := []int{-1, 0, 1, 7, 64, 127, 128, 129}, hubRow()
 	made := beginningsMade(row)
-	for name, base := range map[string]impl.Disk{
-		"new":                         laid(20),
-		"over epoch 1":                olderRun(t, 20, 1),
-		"over epoch 255":              olderRun(t, 20, 255),
-		"over epoch 65535":            olderRun(t, 20, 65535),
-		"over no sectors":             disk(20),
-		"over sectors of other cells": laid(20, mark(0, 4), eventSector(2, 4, tick), eventSector(1, 3, tick), eventSector(3, 5, tick)),
-	} {
+	for name, base := range oldDisks(t, 20) {
 		t.Run(name, func(t *testing.T) {
 			for synced := range 5 {
 				for count := range 4 {

@@ -39,6 +39,19 @@ func olderRun(t *testing.T, n int, epoch int) impl.Disk {
 	return impl.DiskCrash(l.Disk, keep)
 }
 
+// oldDisks are disks of n cells by name: new ones and ones over what older runs left there, none of which tells an event.
+func oldDisks(t *testing.T, n int) map[string]impl.Disk {
+	t.Helper()
+	return map[string]impl.Disk{
+		"new":                         laid(n),
+		"over epoch 1":                olderRun(t, n, 1),
+		"over epoch 255":              olderRun(t, n, 255),
+		"over epoch 65535":            olderRun(t, n, 65535),
+		"over no sectors":             disk(n),
+		"over sectors of other cells": laid(n, mark(0, 4), eventSector(2, 4, tick), eventSector(1, 3, tick), eventSector(3, 5, tick)),
+	}
+}
+
 // lookFound holds what is found behind a crash against P2: the events of taken that came, and nothing else, however often it is opened.
 func lookFound(t *testing.T, d impl.Disk, taken []impl.Event, synced int) bool {
 	t.Helper()
@@ -63,15 +76,8 @@ func lookFound(t *testing.T, d impl.Disk, taken []impl.Event, synced int) bool {
 // P2: whatever each crash keeps of up to three writes that wait, on a new disk and over older sectors: a beginning is found, with all that was synced.
 func TestP2EachCrash(t *testing.T) {
 	numbers := []int{-1, 0, 1, 6, 7, 8, 20, 64, 125, 126, 127, 128, 129}
-	bases := map[string]impl.Disk{
-		"new":                         laid(12),
-		"over epoch 1":                olderRun(t, 12, 1),
-		"over epoch 255":              olderRun(t, 12, 255),
-		"over epoch 65535":            olderRun(t, 12, 65535),
-		"over no sectors":             disk(12),
-		"over a log with events":      impl.DiskCrash(added(t, newLog(t, 12), deposit(501), tick, deposit(502)).Disk, []int{128, 128, 127}),
-		"over sectors of other cells": laid(12, mark(0, 4), eventSector(2, 4, tick), eventSector(1, 3, tick), eventSector(3, 5, tick)),
-	}
+	bases := oldDisks(t, 12)
+	bases["over a log with events"] = impl.DiskCrash(added(t, newLog(t, 12), deposit(501), tick, deposit(502)).Disk, []int{128, 128, 127})
 	for name, base := range bases {
 		t.Run(name, func(t *testing.T) {
 			for synced := range 3 {

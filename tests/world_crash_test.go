@@ -32,14 +32,7 @@ func lookStarted(t *testing.T, w impl.World, synced int, keep []int) impl.World 
 // P2: whatever each crash keeps of up to three events that wait, on a new disk and over what older runs left there.
 func TestP2WorldEachCrash(t *testing.T) {
 	numbers, row := []int{-1, 0, 1, 7, 64, 126, 127, 128, 129}, hubRow()
-	for name, base := range map[string]impl.Disk{
-		"new":                         laid(20),
-		"over epoch 1":                olderRun(t, 20, 1),
-		"over epoch 255":              olderRun(t, 20, 255),
-		"over epoch 65535":            olderRun(t, 20, 65535),
-		"over no sectors":             disk(20),
-		"over sectors of other cells": laid(20, mark(0, 4), eventSector(2, 4, tick), eventSector(1, 3, tick), eventSector(3, 5, tick)),
-	} {
+	for name, base := range oldDisks(t, 20) {
 		t.Run(name, func(t *testing.T) {
 			for synced := range 4 {
 				for count := range 4 {
