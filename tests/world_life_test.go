@@ -104,6 +104,17 @@ func beginning(m mood) []impl.Step {
 	return append(steps(starting), takingAll(deposit(m.amt), impl.Event{Kind: impl.EvOpen, Ch: 1, Amt: m.amt / 2, Fee: m.amt / 3}, impl.Event{Kind: impl.EvOpen, Ch: 2, Amt: m.amt / 3})...)
 }
 
+// live does the beginning of a life and n steps by chance, each by do.
+func live(t *testing.T, x *worldLife, do func(t *testing.T, s impl.Step), d *dice, m mood, n int, busyness int) {
+	t.Helper()
+	for _, s := range beginning(m) {
+		do(t, s)
+	}
+	for range n {
+		do(t, d.anyStep(m, x.world, busyness))
+	}
+}
+
 // P1 and P2: plays of many steps on small disks, some with older runs on them; behind each step all is as it must be.
 func TestP1WorldLives(t *testing.T) {
 	d, seen := dice(124), map[string]int{}
@@ -114,12 +125,7 @@ func TestP1WorldLives(t *testing.T) {
 			w.Disk = olderRun(t, n+3, []int{1, 2, 255, 256, 65535}[d.below(5)])
 		}
 		x := worldLife{world: w, seen: seen}
-		for _, s := range beginning(m) {
-			x.do(t, s)
-		}
-		for range 90 {
-			x.do(t, d.anyStep(m, x.world, 10))
-		}
+		live(t, &x, x.do, &d, m, 90, 10)
 	}
 	for _, what := range []string{"code 0", "code 1", "code 15", "code 21", "code 22", "sync", "crash", "start", "start, found some", "turn", "crash, not up", "start, not up"} {
 		if seen[what] < 20 {
@@ -176,12 +182,7 @@ func TestP1WorldLivesOnGreatDisks(t *testing.T) {
 	for i := range 2 {
 		w, _ := impl.WorldNew(600 - i)
 		x := worldLife{world: w, seen: seen}
-		for _, s := range beginning(moods()[i]) {
-			x.do(t, s)
-		}
-		for range 250 {
-			x.do(t, d.anyStep(moods()[i], x.world, 30))
-		}
+		live(t, &x, x.do, &d, moods()[i], 250, 30)
 	}
 	if seen["crash"] < 10 || seen["code 0"] < 700 {
 		t.Errorf("%v: the test looks at too few", seen)
